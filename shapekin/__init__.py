@@ -1,0 +1,1 @@
+"""Shapekin: trees told alike whatever their knots are called."""
