@@ -2,8 +2,15 @@
 
 from shapekin.errors import NoTree
 
+# No form holds this sign, so a form with it tells where the marked knot lies.
+MARK = "*"
+
 
 def form_of(above):
+    return knot_forms(above)[root_of(above)]
+
+
+def knot_forms(above, marked=None):
     root = root_of(above)
     under = knots_under(above)
     order = downward(root, under)
@@ -12,8 +19,11 @@ def form_of(above):
         raise NoTree("from some knot one does not come to the root")
     forms = [""] * len(above)
     for knot in reversed(order):
-        forms[knot] = form_over([forms[part] for part in under[knot]])
-    return forms[root]
+        parts = [forms[part] for part in under[knot]]
+        if knot == marked:
+            parts.append(MARK)
+        forms[knot] = form_over(parts)
+    return forms
 
 
 def form_over(parts):

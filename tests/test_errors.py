@@ -3,6 +3,7 @@
 import unittest
 
 from shapekin import errors
+from shapekin.book import Book
 from shapekin.forms import tree_of
 from shapekin.rooted import form_of
 
@@ -30,3 +31,16 @@ class Refusals(unittest.TestCase):
             for taken in (errors.NoForm, errors.TreeError, ValueError):
                 with self.subTest(text=text, taken=taken), self.assertRaises(taken):
                     tree_of(text)
+
+    def test_no_kind_is_taken_by_each_of_its_names(self):
+        for kind in (-1, 0, 10 ** 20):
+            for taken in (errors.NoKind, errors.TreeError, ValueError):
+                with self.subTest(kind=kind, taken=taken), self.assertRaises(taken):
+                    Book().form(kind)
+
+    def test_no_refusal_is_taken_by_anothers_name(self):
+        refusals = [(errors.NoTree, form_of, []), (errors.NoForm, tree_of, ""), (errors.NoKind, Book().form, 0)]
+        for error, function, handed in refusals:
+            with self.assertRaises(errors.TreeError) as taken:
+                function(handed)
+            self.assertIs(type(taken.exception), error)

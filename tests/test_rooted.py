@@ -6,10 +6,8 @@ from itertools import permutations, product
 from shapekin.errors import NoTree
 from shapekin.rooted import form_of
 from tests.trees import (
-    chain, comb, growing_trees, halved, orders, plain_form_of, plainly_a_tree, renumbered, star,
+    HUGE, NO_TREES, chain, comb, growing_trees, halved, orders, plain_form_of, plainly_a_tree, renumbered, star,
 )
-
-HUGE = 10 ** 20
 
 
 class WhatIsNoTree(unittest.TestCase):
@@ -19,6 +17,10 @@ class WhatIsNoTree(unittest.TestCase):
             with self.assertRaises(NoTree):
                 form_of(above)
             self.assertEqual(above, before)
+
+    def test_what_each_function_refuses(self):
+        for above in NO_TREES:
+            self.refused(above)
 
     def test_no_knots(self):
         self.refused([])
